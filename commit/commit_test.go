@@ -838,7 +838,7 @@ func TestFromChoices(t *testing.T) {
 		draw := polyDrawer(g, r)
 		f := draw(7)
 		for which := range 1 << api.MaxServers {
-			if len(some(f, which)) == 7 || which%3 == 1 {
+			if len(some(f, which)) == 7 {
 				continue
 			}
 			count := len(some(f, which)) + 1
